@@ -1,0 +1,1 @@
+"""Forkform: statements over four letters, put into forks."""
