@@ -15,6 +15,19 @@ def told_with(statement, other, letter, value, settings):
     return [first and second for first, second in zip(told_at(statement, put), told_at(other, settings))]
 
 
+def every_setting():
+    """The 16 settings, made anew; of two of them that one comes first which has the first letter they differ in."""
+    settings = [[]]
+    for letter in reversed(LETTERS):
+        settings = [[letter] + setting for setting in settings] + settings
+    return settings
+
+
+def told_everywhere(statement):
+    """For each of the 16 settings, in the order of every_setting, True where the statement holds at it, else False."""
+    return told_at(statement, every_setting())
+
+
 def with_letter(setting, letter, value):
     """A new setting that has the letter just where value is True, and is else like the one given."""
     letters = [one for one in setting if one != letter]

@@ -1,7 +1,12 @@
-"""Point 1: no clock, chance or files. The package draws on nothing but itself, and uses few of Python's own names."""
+"""Point 1: no clock, chance or files. The package draws on nothing but itself, and uses few of Python's own names.
+
+Besides, the names and arguments of the interface.
+"""
 
 import ast
 import builtins
+import importlib
+import inspect
 import os
 import unittest
 
@@ -12,6 +17,18 @@ ALLOWED = [
     "len", "range", "enumerate", "zip", "min", "max", "sum", "abs", "sorted", "reversed", "int", "str", "bool",
     "list", "tuple", "dict", "set", "frozenset", "isinstance", "ord", "repr", "any", "all", "divmod", "Exception",
     "ValueError", "KeyError", "IndexError", "LookupError", "RuntimeError",
+]
+
+INTERFACE = [
+    ("statements", "is_statement", ["thing"]),
+    ("telling", "told_at", ["statement", "settings"]),
+    ("telling", "told_with", ["statement", "other", "letter", "value", "settings"]),
+    ("forks", "forked", ["statement"]),
+    ("asking", "ways", ["statement"]),
+    ("asking", "always", ["statement"]),
+    ("asking", "same", ["one", "other"]),
+    ("asking", "example", ["statement"]),
+    ("asking", "count", ["statement"]),
 ]
 
 
@@ -49,6 +66,18 @@ class Package(unittest.TestCase):
             for node in ast.walk(ast.parse(text)):
                 if isinstance(node, ast.FunctionDef):
                     self.assertLessEqual(node.end_lineno - node.lineno + 1, 40, node.name)
+
+
+class Interface(unittest.TestCase):
+    def test_names_and_arguments(self):
+        for file, name, arguments in INTERFACE:
+            function = getattr(importlib.import_module("forkform." + file), name)
+            self.assertEqual(function.__module__, "forkform." + file)
+            parameters = inspect.signature(function).parameters.values()
+            self.assertEqual([one.name for one in parameters], arguments, name)
+            for one in parameters:
+                self.assertIs(one.default, inspect.Parameter.empty, name)
+                self.assertEqual(one.kind, inspect.Parameter.POSITIONAL_OR_KEYWORD, name)
 
 
 if __name__ == "__main__":
